@@ -1,0 +1,1 @@
+"""Rows of steps from one tree, merged by commuting."""
