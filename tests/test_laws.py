@@ -3,8 +3,8 @@
 import random
 import unittest
 
-from tests.calls import (added, after_laid, ask, files, hunk, last, laid, merge, moved, outcome, removed, row_of, sides,
-                         step, swap)
+from tests.calls import (added, after_laid, ask, hunk, laid, last, merge, moved, outcome, removed, row_of, sides, step,
+                         swap)
 
 TREE = {0: [1, 2, 1], 1: [], 2: [3]}
 NAMES = (0, 1, 2, 3)

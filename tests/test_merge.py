@@ -2,8 +2,8 @@
 
 import unittest
 
-from tests.calls import (added, after_laid, ask, files, hunk, last, merge, moved, outcome, removed, row_of, shown, sides,
-                         swap, tree)
+from tests.calls import (added, after_laid, ask, files, hunk, last, merge, moved, outcome, removed, row_of, shown,
+                         sides, swap, tree)
 
 TREE = {0: [1, 2, 3, 4, 5], 1: [], 2: [6, 7]}
 
