@@ -60,6 +60,18 @@ def step_brought_ahead(row, step):
     return (step, list(reversed(row_behind)))
 
 
+def row_without(step, row):
+    """What the row behind the step becomes when the step is brought behind it; None if it can't be brought there."""
+    row_ahead = []
+    for other in row:
+        both = commuted(step, other)
+        if both is None:
+            return None
+        row_ahead.append(both[0])
+        step = both[1]
+    return row_ahead
+
+
 def row_brought_ahead(row, other):
     """What the other row becomes ahead of the row, and the row behind it; None if it can't be brought there."""
     ahead = []

@@ -1,6 +1,6 @@
 """Calls on one object, handed in and answered as whole numbers."""
 
-from rowsmerged.store import Store
+from rowsmerged.store import Store, two_merged
 
 TREE = 0
 STEP = 1
@@ -8,6 +8,12 @@ SHOWN = 2
 OUTCOME = 3
 MERGE = 4
 SIDES = 5
+CONFLICTS = 6
+CLEAN = 7
+ALL = 8
+PULL = 9
+DROP = 10
+TWO = 11
 
 
 class NoSuchCall(Exception):
@@ -36,10 +42,24 @@ class Reader:
         return self.numbers[self.place - count:self.place]
 
 
+def answer_of_one_row(store, call, row):
+    if call == SHOWN:
+        return store.shown(row)
+    if call == OUTCOME:
+        return store.outcome(row)
+    return store.drop(row)
+
+
 def answer_of_two_rows(store, call, row, other):
     if call == MERGE:
         return store.merge(row, other)
-    return store.sides(row, other)
+    if call == SIDES:
+        return store.sides(row, other)
+    if call == CONFLICTS:
+        return store.conflicts(row, other)
+    if call == CLEAN:
+        return store.clean(row, other)
+    return store.pull(row, other)
 
 
 def answer_now(store, reader):
@@ -50,11 +70,14 @@ def answer_now(store, reader):
     if call == STEP:
         row = reader.number()
         return store.add_step(row, reader.run())
-    if call == SHOWN:
-        return store.shown(reader.number())
-    if call == OUTCOME:
-        return store.outcome(reader.number())
-    if call == MERGE or call == SIDES:
+    if call == ALL:
+        return store.merge_all(reader.run())
+    if call == TWO:
+        numbers = reader.run()
+        return two_merged(numbers, reader.run())
+    if call in (SHOWN, OUTCOME, DROP):
+        return answer_of_one_row(store, call, reader.number())
+    if call in (MERGE, SIDES, CONFLICTS, CLEAN, PULL):
         row = reader.number()
         return answer_of_two_rows(store, call, row, reader.number())
     raise NoSuchCall(f"no call {call}")

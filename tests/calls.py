@@ -27,6 +27,30 @@ def sides(row, other):
     return [5, row, other]
 
 
+def conflicts(row, other):
+    return [6, row, other]
+
+
+def clean(row, other):
+    return [7, row, other]
+
+
+def merge_all(rows):
+    return [8, len(rows)] + list(rows)
+
+
+def pull(row, other):
+    return [9, row, other]
+
+
+def drop(row):
+    return [10, row]
+
+
+def two(items, other):
+    return [11, len(items)] + list(items) + [len(other)] + list(other)
+
+
 def hunk(file, place, old, new):
     return [0, file, place, len(old)] + list(old) + [len(new)] + list(new)
 
@@ -58,6 +82,11 @@ def files(told):
 def row_of(steps):
     """A row as numbers, from steps as numbers."""
     return [len(steps)] + [number for items in steps for number in items]
+
+
+def pairs_of(pairs):
+    """Pairs as numbers."""
+    return [len(pairs)] + [number for pair in pairs for number in pair]
 
 
 def ask(*calls):

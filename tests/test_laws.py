@@ -5,10 +5,7 @@ import unittest
 
 from tests.calls import (added, after_laid, ask, hunk, laid, last, merge, moved, outcome, removed, row_of, sides, step,
                          swap)
-
-TREE = {0: [1, 2, 1], 1: [], 2: [3]}
-NAMES = (0, 1, 2, 3)
-TOKENS = (1, 2, 3)
+from tests.drawn import NAMES, TOKENS, TREE, fitting, some_row, split_rows, split_tree
 
 
 def untouched_between(one, other):
@@ -27,63 +24,6 @@ def may_be_merged(one, other):
     if kinds == [1, 1]:
         return not set(one[2:]) & set(other[2:])
     return kinds in ([0, 1], [0, 4], [1, 4])
-
-
-def hunks(told):
-    """Hunks of at most two old and two new tokens that fit a tree, told as a dict."""
-    news = [[], [1], [3], [2, 3]]
-    result = []
-    for name, tokens in told.items():
-        for place in range(len(tokens) + 1):
-            for end in range(place, min(place + 2, len(tokens)) + 1):
-                result += [hunk(name, place, tokens[place:end], new) for new in news if new or end > place]
-    return result
-
-
-def fitting(told):
-    """Steps of all kinds that fit a tree, told as a dict."""
-    free = [name for name in NAMES if name not in told]
-    result = hunks(told)
-    result += [swap(name, one, other) for name in told for one in TOKENS for other in TOKENS if one != other]
-    result += [added(name) for name in free]
-    result += [removed(name) for name in told if not told[name]]
-    result += [moved(name, new) for name in told for new in free]
-    return result
-
-
-def split_tree(numbers):
-    """A tree as numbers, as a dict."""
-    told = {}
-    place = 1
-    while place < len(numbers):
-        end = place + 2 + numbers[place + 1]
-        told[numbers[place]] = numbers[place + 2:end]
-        place = end
-    return told
-
-
-def split_rows(numbers):
-    """Rows as numbers, one behind the other, as lists of steps."""
-    rows = []
-    place = 0
-    while place < len(numbers):
-        count = numbers[place]
-        place += 1
-        row = []
-        while len(row) < count:
-            end = step_end(numbers, place)
-            row.append(numbers[place:end])
-            place = end
-        rows.append(row)
-    return rows
-
-
-def step_end(numbers, place):
-    """Where the step that begins at a place ends."""
-    if numbers[place] == 0:
-        new = place + 4 + numbers[place + 3]
-        return new + 1 + numbers[new]
-    return place + {1: 4, 2: 2, 3: 2, 4: 3}[numbers[place]]
 
 
 def square(told, one, other):
@@ -117,15 +57,6 @@ def by_squares(told, first, second):
         second_behind.append(other)
         first = first_behind
     return second_behind, first
-
-
-def some_row(chance, told, most):
-    """A row of at most so many steps."""
-    row = []
-    for _ in range(chance.randint(0, most)):
-        row.append(chance.choice(fitting(told)))
-        told = split_tree(last(*laid(told, [row[-1]]), outcome(0)))
-    return row
 
 
 class Laws(unittest.TestCase):
